@@ -1,0 +1,1 @@
+"""Undername: programs over ordered stores, decided for all names at once."""
