@@ -7,7 +7,8 @@ MOST_FILE_LINES = 399
 MOST_LINE_CHARACTERS = 120
 MOST_FUNCTION_LINES = 40
 
-# The functions of the interface with their parameters, by file.
+# The functions of the interface with their parameters, by file; those behind a
+# star are by name only.
 FUNCTIONS = {
     "texts.py": {
         "check_letters": ["letters"],
@@ -22,11 +23,98 @@ FUNCTIONS = {
         "shared": ["word", "name"],
         "same_words": ["one", "other"],
     },
+    "made.py": {
+        "struck": ["one", "other"],
+        "relation": ["one", "other", "name"],
+        "word_of": ["one", "other"],
+    },
+    "equations.py": {
+        "names_where": ["letters", "one", "other", "words"],
+        "solved": ["letters", "one", "other"],
+    },
+    "orders.py": {
+        "order": ["letters", "bounds", "name", "*", "most=1"],
+        "told_names": ["letters", "bounds", "*", "most=1"],
+        "told_name": ["letters", "bounds", "name", "*", "most=1"],
+        "classes": ["letters", "bounds", "*", "most=1"],
+    },
+    "zones.py": {
+        "names_within": ["zone", "other"],
+        "missed": ["zone", "other"],
+        "names_with_room": ["zone", "many"],
+        "right_end": ["letters", "made"],
+        "wrong_end": ["letters", "made", "bound"],
+    },
+}
+
+# The classes of the interface with the parameters of their constructors and
+# named methods, and with the operators that stand in them, by file.
+CLASSES = {
+    "made.py": {
+        "Made": (
+            {"__init__": ["self", "text=''"], "__call__": ["self", "name"]},
+            ["add", "radd", "mul", "rmul", "eq", "len", "str"],
+        ),
+    },
+    "names.py": {
+        "Names": (
+            {
+                "none": ["cls", "letters"], "every": ["cls", "letters"], "of": ["cls", "letters", "some"],
+                "beginning": ["cls", "letters", "text"], "family": ["cls", "letters", "word", "rest", "count=0"],
+                "size": ["self"], "least": ["self"], "many": ["self", "length"],
+            },
+            [
+                "and", "or", "sub", "xor", "invert", "le", "lt", "ge", "gt", "eq", "add", "radd", "floordiv", "contains",
+                "bool", "getitem", "iter",
+            ],
+        ),
+    },
+    "bounds.py": {
+        "Bound": (
+            {
+                "__init__": ["self", "kind", "made=None"], "ahead": ["cls", "made"], "behind": ["cls", "made"],
+                "past": ["cls", "made"], "end": ["cls"], "placed": ["self", "letters", "name"],
+            },
+            ["eq", "str"],
+        ),
+    },
+    "zones.py": {
+        "Zone": (
+            {
+                "__init__": ["self", "letters", "low", "high"], "under": ["cls", "letters", "made"],
+                "only": ["cls", "letters", "made"], "everything": ["cls", "letters"], "read": ["cls", "letters", "text"],
+                "__call__": ["self", "name"], "has": ["self", "name", "key"],
+            },
+            ["and", "or", "sub", "xor", "invert", "eq", "le", "lt", "ge", "gt", "bool", "str"],
+        ),
+    },
+    "stores.py": {
+        "Store": (
+            {
+                "__init__": ["self", "letters", "pairs=()"],
+                "pairs": ["self", "low=''", "high=None", "*", "after=None"],
+                "page": ["self", "count", "low=''", "high=None", "*", "after=None"],
+                "take": ["self", "low", "high", "*", "after=None"],
+                "fill": ["self", "value", "low", "high", "*", "after=None"],
+                "copied": ["self"], "trial": ["self"], "within": ["self", "work"],
+            },
+            ["getitem", "setitem", "contains", "len", "eq", "iter"],
+        ),
+    },
 }
 
 
 def parsed(path):
     return ast.parse(path.read_text(encoding="utf-8"))
+
+
+def parameters_of(body):
+    """The parameters of each function in a file or a class, as they are written."""
+    return {
+        node.name: ast.unparse(node.args).split(", ")
+        for node in body
+        if isinstance(node, ast.FunctionDef)
+    }
 
 
 class LayoutTest(unittest.TestCase):
@@ -42,16 +130,40 @@ class LayoutTest(unittest.TestCase):
         names = [path.name for path in PACKAGE.iterdir() if path.name != "__pycache__"]
         self.assertEqual(sorted(names), [path.name for path in self.files()])
 
-    def test_interface_is_defined_in_its_file(self):
+    def test_functions_are_defined_in_their_file(self):
         for file_name, functions in FUNCTIONS.items():
-            defined = {
-                node.name: [argument.arg for argument in node.args.args]
-                for node in parsed(PACKAGE / file_name).body
-                if isinstance(node, ast.FunctionDef)
-            }
+            defined = parameters_of(parsed(PACKAGE / file_name).body)
             for name, parameters in functions.items():
                 with self.subTest(file=file_name, name=name):
                     self.assertEqual(defined.get(name), parameters)
+
+    def test_classes_are_defined_in_their_file(self):
+        for file_name, classes in CLASSES.items():
+            defined = {node.name: node for node in parsed(PACKAGE / file_name).body if isinstance(node, ast.ClassDef)}
+            for class_name, (methods, operators) in classes.items():
+                found = parameters_of(defined[class_name].body)
+                for name, parameters in methods.items():
+                    with self.subTest(file=file_name, name=name):
+                        self.assertEqual(found.get(name), parameters)
+                for name in operators:
+                    with self.subTest(file=file_name, name=name):
+                        self.assertIn(f"__{name}__", found)
+
+    def test_properties_and_class_methods(self):
+        decorated = {
+            (node.name, method.name): ast.unparse(method.decorator_list[0])
+            for path in self.files()
+            for node in parsed(path).body if isinstance(node, ast.ClassDef)
+            for method in node.body if isinstance(method, ast.FunctionDef) and method.decorator_list
+        }
+        for class_name, names in (
+            ("Names", ["none", "every", "of", "beginning", "family"]), ("Bound", ["ahead", "behind", "past", "end"]),
+            ("Zone", ["under", "only", "everything", "read"]),
+        ):
+            for name in names:
+                self.assertEqual(decorated[(class_name, name)], "classmethod")
+        for name in ("size", "least"):
+            self.assertEqual(decorated[("Names", name)], "property")
 
     def test_sizes(self):
         for path in self.files():
