@@ -122,6 +122,14 @@ class ToldNamesTest(unittest.TestCase):
         # Three texts or more are as many as endlessly many.
         self.assertEqual(told_names("ab", [Bound.ahead(Made()), Bound.ahead(Made("@"))], most=3), ("", "a", "b", "aa"))
 
+    def test_most_is_one(self):
+        bounds = [Bound.ahead(Made("@")), Bound.ahead(Made())]
+        self.assertEqual(told_names("ab", bounds), ("", "a"))
+        self.assertEqual(told_names("ab", bounds, most=2), ("", "a", "b"))
+        self.assertEqual(told_name("ab", bounds, "bb"), "a")
+        self.assertEqual(told_name("ab", bounds, "bb", most=2), "b")
+        self.assertEqual(classes("ab", bounds), (("", Names.of("ab", [""])), ("a", ~Names.of("ab", [""]))))
+
     def test_told_names_are_the_first_of_each_order(self):
         for letters, bounds, most in some_rows(250, 231):
             told = told_names(letters, bounds, most=most)

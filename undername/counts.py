@@ -105,7 +105,7 @@ def _spelled(letters, table, length, number):
     counts = [[int(is_in) for is_in, _ in table]]
     for _ in range(length):
         last = counts[-1]
-        counts.append([sum([last[to] for to in way]) for _, way in table])
+        counts.append([sum([last[goal] for goal in way]) for _, way in table])
     name = ""
     state = 0
     left = number

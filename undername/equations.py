@@ -56,17 +56,19 @@ def solved(letters, one, other):
     if one == other:
         return None
     if word_of(one, other) is None:
-        return tuple([name for name in [""] if relation(one, other, name) == SAME]), None
+        # Made texts that differ by nothing but marks are the same for no other name.
+        return ("",) if relation(one, other, "") == SAME else (), None
     track = _track(one, other)
     _, far, turn = track
-    # A solution lies on the word.
-    solves = [relation(one, other, name_along(track, size)) == SAME for size in range(places_of(track))]
-    family = None
-    apart = [size for size, is_same in enumerate(solves) if is_same]
-    for size in [size for size in apart if size >= far]:
-        first = size
-        while first >= turn and solves[first - turn]:
-            first = first - turn
-        family = (name_along(track, turn), name_along(track, first % turn), first // turn)
-        apart = [other_size for other_size in apart if other_size < first or (other_size - first) % turn > 0]
+    # A solution lies on the word; these are the sizes of all, up to turns.
+    sizes = [size for size in range(places_of(track)) if relation(one, other, name_along(track, size)) == SAME]
+    endless = [size for size in sizes if size >= far]
+    if not endless:
+        return tuple([name_along(track, size) for size in sizes]), None
+    # There is one endless family at most.
+    first = endless[0]
+    while first - turn in sizes:
+        first = first - turn
+    apart = [size for size in sizes if size < first or (size - first) % turn != 0]
+    family = (name_along(track, turn), name_along(track, first % turn), first // turn)
     return tuple([name_along(track, size) for size in apart]), family

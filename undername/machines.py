@@ -31,7 +31,7 @@ def met_table(labels, ways, start):
                 numbers[to] = len(met)
                 met.append(to)
         at += 1
-    return tuple([(labels[state], tuple([numbers[to] for to in ways[state]])) for state in met])
+    return tuple([(labels[old], tuple([numbers[goal] for goal in ways[old]])) for old in met])
 
 
 def _parts(table):
@@ -43,7 +43,7 @@ def _parts(table):
     places = list(_places(states))
     firsts = [at for at, state in enumerate(states) if at == 0 or part_of[state] != part_of[states[at - 1]]]
     lasts = list(firsts[1:] + [len(states)])
-    sources = [_sources(table, letter) for letter, _ in enumerate(table[0][1])]
+    sources = [_sources(table, at) for at in range(len(table[0][1]))]
     waiting = list(range(len(firsts)))
     while waiting:
         splitter = waiting.pop()
@@ -99,10 +99,10 @@ def _places(states):
     return places
 
 
-def _sources(table, letter):
-    """Return for each state the list of the states from which the letter leads to it."""
+def _sources(table, letter_at):
+    """Return for each state the list of the states from which a letter leads to it."""
     many = len(table)
-    codes = sorted([int(way[letter] * many + state) for state, (_, way) in enumerate(table)])
+    codes = sorted([int(way[letter_at] * many + state) for state, (_, way) in enumerate(table)])
     found = []
     at = 0
     for goal in range(many):

@@ -93,10 +93,8 @@ def _turns(letters, text):
             for letter, short in zip(letters, shorter)
         ]
         turns.append(row)
-        if 0 < size < len(text):
+        if size < len(text):
             shorter = turns[shorter[letters.index(text[size])]]
-        elif size < len(text):
-            shorter = turns[0]
     return turns
 
 
