@@ -38,7 +38,7 @@ def _parts(table):
     """Return for each state the number of its part; states that are alike share one."""
     # Hopcroft's algorithm. The states of a part stand side by side in `states`,
     # from firsts[part] up to lasts[part].
-    part_of = list(_label_parts(table))
+    part_of = list(numbered([label for label, _ in table]))
     states = list(_side_by_side(part_of))
     places = list(_places(states))
     firsts = [at for at, state in enumerate(states) if at == 0 or part_of[state] != part_of[states[at - 1]]]
@@ -76,13 +76,13 @@ def _parts(table):
     return part_of
 
 
-def _label_parts(table):
-    """Return for each state the number of its label, in the order in which they are met."""
+def numbered(labels):
+    """Return a number for each label, in the order in which they are met."""
     numbers = {}
-    for label, _ in table:
+    for label in labels:
         if label not in numbers:
             numbers[label] = len(numbers)
-    return [numbers[label] for label, _ in table]
+    return [numbers[label] for label in labels]
 
 
 def _side_by_side(part_of):

@@ -1,7 +1,7 @@
 """The machine that tells for each name which order some bounds have."""
 
 from undername.bounds import check_bound
-from undername.machines import joined, least_names, least_table
+from undername.machines import joined, least_names, least_table, numbered
 from undername.made import struck, word_of
 from undername.texts import room
 from undername.tracks import letter_at, most_fixed, place_behind, track_of
@@ -37,14 +37,13 @@ def _room_up_to(letters, low, high, most):
 def told_table(letters, bounds, most):
     """Return the told names, and the table that gives each name the number of its told one."""
     table = _order_table(letters, bounds, most)
-    names = least_names(letters, table)
+    numbers = numbered([label for label, _ in table])
     told = []
-    numbers = {}
-    for name, (label, _) in zip(names, table):
-        if label not in numbers:
-            numbers[label] = len(told)
+    # States are numbered by their least names, so each told name comes first.
+    for name, number in zip(least_names(letters, table), numbers):
+        if number == len(told):
             told.append(name)
-    return told, tuple([(numbers[label], way) for label, way in table])
+    return told, tuple([(number, way) for number, (_, way) in zip(numbers, table)])
 
 
 def _order_table(letters, bounds, most):
@@ -54,7 +53,7 @@ def _order_table(letters, bounds, most):
     for one, other in _pairs([bound.made for bound in bounds if bound.made is not None]):
         some = [bound for bound in bounds if bound.made is None or bound.made == one or bound.made == other]
         labels, ways = joined(table, _table_of_two(letters, one, other, some, most))
-        table = least_table(_numbered(labels), ways)
+        table = least_table(numbered(labels), ways)
     return table
 
 
@@ -65,15 +64,6 @@ def _pairs(mades):
     if len(different) == 1:
         return [(different[0], different[0])]
     return [(one, other) for at, one in enumerate(different) for other in different[at + 1:]]
-
-
-def _numbered(labels):
-    """Return a number for each label, the same one for equal labels."""
-    numbers = {}
-    for label in labels:
-        if label not in numbers:
-            numbers[label] = len(numbers)
-    return [numbers[label] for label in labels]
 
 
 def _table_of_two(letters, one, other, bounds, most):
@@ -98,7 +88,7 @@ def _table_of_two(letters, one, other, bounds, most):
                 names.append(name + letter)
             way.append(numbers[state])
         ways.append(tuple(way))
-    return least_table(_numbered([order_at(letters, bounds, name, most) for name in names]), ways)
+    return least_table(numbered([order_at(letters, bounds, name, most) for name in names]), ways)
 
 
 def _track(one, other, most):
@@ -110,7 +100,8 @@ def _track(one, other, most):
         # The other text ends behind its word, so the name does not go around.
         return word, len(word), 0
     # So far along the word a name outruns what fixed letters can push the texts
-    # apart, shows a letter of each kind behind that, and fills the rooms.
+    # apart, goes around once more, and has more letters than rooms are counted;
+    # from there on only its last turn tells the order.
     return track_of(word, 2 * len(word) + most_fixed(one, other) + most + 5)
 
 
