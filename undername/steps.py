@@ -142,11 +142,18 @@ def _read_bound(letters, words, at):
 
 
 def _read_made(letters, words, at):
-    word = _word_at(words, at)
+    made = made_of_word(letters, _word_at(words, at))
+    if made is None:
+        raise InvalidZone(at)
+    return made
+
+
+def made_of_word(letters, word):
+    """Return the made text that a word writes, or None."""
     if word == EMPTY:
         return Made()
     if word == "" or not all([character == MARK or character in letters for character in word]):
-        raise InvalidZone(at)
+        return None
     return Made(word)
 
 
