@@ -11,12 +11,7 @@ from undername.stores import Store
 
 def alike(p, q, *, names=None, where=(), answers=True, store=True):
     """Tell whether both programs have the same outcome for every name and store meant."""
-    ground = ground_of(p, q, names, where)
-    for name in names_meant(ground):
-        field = field_of(ground, name)
-        if is_come_to(field, parting_steps(field, p, q, where, answers, store)):
-            return False
-    return True
+    return are_alike_on(ground_of(p, q, names, where), p, q, where, answers, store)
 
 
 def least_parting(p, q, *, names=None, where=(), answers=True, store=True):
@@ -41,14 +36,23 @@ def parting_names(p, q, *, names=None, where=(), answers=True, store=True):
     return found if names is None else found & names
 
 
+def are_alike_on(ground, p, q, where, answers, store):
+    """Tell whether both programs have the same outcome for every name and store meant by a ground."""
+    for name in names_meant(ground):
+        field = field_of(ground, name)
+        if is_come_to(field, parting_steps(field, p, q, where, answers, store)):
+            return False
+    return True
+
+
 def ground_of(p, q, names, where):
     """Return the ground of two programs; raise Mismatch if letters differ."""
     check_same(p.letters, q.letters)
-    parts = check_where(p.letters, names, where)
+    parts = checked_parts(p.letters, names, where)
     return Ground(p.letters, parts_within(p.rows) + parts_within(q.rows) + parts, p.pages + q.pages + 2, names)
 
 
-def check_where(letters, names, tests):
+def checked_parts(letters, names, tests):
     """Return the parts of tests; raise Mismatch if letters of them or of the names differ."""
     if names is not None:
         check_same(letters, names.letters)
