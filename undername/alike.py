@@ -32,7 +32,8 @@ def parting_names(p, q, *, names=None, where=(), answers=True, store=True):
     for name in ground.meant:
         field = None if name is None else field_of(ground, name)
         parts.append(field is not None and is_come_to(field, parting_steps(field, p, q, where, answers, store)))
-    found = Names(p.letters, least_table([parts[number] for number, _ in ground.table], [way for _, way in ground.table]))
+    labels = [parts[number] for number, _ in ground.table]
+    found = Names(p.letters, least_table(labels, [way for _, way in ground.table]))
     return found if names is None else found & names
 
 

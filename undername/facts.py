@@ -64,12 +64,8 @@ def are_same(facts, one, other):
         return True
     if isinstance(first, int) and isinstance(second, int):
         return False
-    for left, right in facts.apart:
-        left = facts.known.get(left, left)
-        right = facts.known.get(right, right)
-        if (left == first and right == second) or (left == second and right == first):
-            return False
-    return None
+    roots = [(facts.known.get(left, left), facts.known.get(right, right)) for left, right in facts.apart]
+    return False if (first, second) in roots or (second, first) in roots else None
 
 
 def made_same(facts, one, other):

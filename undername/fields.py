@@ -7,9 +7,9 @@ becomes, or a gap, which holds none of these.
 
 from undername.machines import joined, least_names
 from undername.made import Made, filled
-from undername.ordering import told_table
+from undername.ordering import room_up_to, told_table
 from undername.parts import bounds_of_parts, key_texts_of
-from undername.texts import name_at, number_of, room
+from undername.texts import name_at, number_of
 
 
 class Field:
@@ -24,14 +24,9 @@ class Field:
         self.lows = tuple(lows)
         self.is_key = tuple([low in made_keys for low in lows])
         self.most = tuple([
-            1 if low in made_keys else _room_up_to(letters, low, high, most)
+            1 if low in made_keys else room_up_to(letters, low, high, most)
             for low, high in zip(lows, lows[1:] + [None])
         ])
-
-
-def _room_up_to(letters, low, high, most):
-    many = room(letters, low, high)
-    return most if many is None or many > most else many
 
 
 def key_spot(field, made):

@@ -26,10 +26,11 @@ def order_at(letters, bounds, name, most):
     texts = sorted(set([str(place) for place in places if place is not None]))
     ranks = tuple([len(texts) if place is None else texts.index(place) for place in places])
     ends = texts[1:] + [None] if None in places else texts[1:]
-    return ranks, tuple([_room_up_to(letters, low, high, most) for low, high in zip(texts, ends)])
+    return ranks, tuple([room_up_to(letters, low, high, most) for low, high in zip(texts, ends)])
 
 
-def _room_up_to(letters, low, high, most):
+def room_up_to(letters, low, high, most):
+    """Return the room from a text up to another one, at most so much."""
     many = room(letters, low, high)
     return most if many is None or many > most else many
 

@@ -5,6 +5,7 @@ from undername.facts import MANY, OpenQuestion, answers_to, are_same, is_told, m
 from undername.fields import field_of
 from undername.scripts import test_step
 from undername.searches import open_question
+from undername.texts import is_number
 from undername.trails import copied_trail, holds_in, new_trail
 from undername.verdicts import verdict
 
@@ -134,7 +135,7 @@ def _many_branches(field, tree, facts):
 def _is_branches(field, tree, facts):
     _, number, value, yes, no = tree
     spot = _spot_of(field, True, number)
-    if spot is None or not _is_integer(value) or not 0 <= value <= GREATEST_VALUE:
+    if spot is None or not is_number(value) or not 0 <= value <= GREATEST_VALUE:
         return []
     return _value_branches(facts, [spot], (spot, 1), value, yes, no)
 
@@ -154,13 +155,9 @@ def _value_branches(facts, spots, one, other, yes, no):
     return [(yes, made_same(facts, one, other)), (no, made_apart(facts, one, other))]
 
 
-def _is_integer(value):
-    return isinstance(value, int) and not isinstance(value, bool)
-
-
 def _spot_of(field, is_key, number):
     """Return the spot of the made key or gap with a number (any value), or None."""
     spots = _spots(field, is_key)
-    if not _is_integer(number) or not 0 <= number < len(spots):
+    if not is_number(number) or not 0 <= number < len(spots):
         return None
     return spots[number]

@@ -1,6 +1,6 @@
 """The parts of programs: their rows and tests, and the made texts and zones in them."""
 
-from undername.bounds import Bound
+from undername.bounds import BEHIND, END, FROM, Bound
 from undername.errors import Mismatch
 from undername.made import Made, check_among
 from undername.rows import Copy, If, Is, Not, Page, Put, Same, Some, Tell, There, Zoned
@@ -74,9 +74,9 @@ def key_texts_of(parts):
 def bounds_of_parts(parts):
     """Return the different bounds of all texts, of keys and of zones, ascending by their texts."""
     mades = [Made(text) for text in key_texts_of(parts)]
-    bounds = [Bound.ahead(Made()), Bound.end()]
-    bounds.extend([Bound.ahead(made) for made in mades])
-    bounds.extend([Bound.behind(made) for made in mades])
+    # Operators may not call class methods.
+    bounds = [Bound(FROM, Made()), Bound(END)]
+    bounds.extend([Bound(kind, made) for kind in (FROM, BEHIND) for made in mades])
     bounds.extend([bound for zone in _zones_of(parts) for bound in zone.bounds])
     by_text = dict([(str(bound), bound) for bound in bounds])
     return [by_text[text] for text in sorted([str(key) for key in by_text])]

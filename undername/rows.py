@@ -2,6 +2,7 @@
 
 from undername.errors import InvalidRow
 from undername.made import Made
+from undername.texts import is_number
 from undername.zones import Zone
 
 FIND_LETTERS = "abcdefghijklmnopqrstuvwxyz"
@@ -176,7 +177,7 @@ class Page(Asking, Zoned):
 
     def __init__(self, zone, count, found, after=None):
         _check_zone(zone)
-        if not _is_integer(count) or not 1 <= count <= MOST_COUNT:
+        if not is_number(count) or not 1 <= count <= MOST_COUNT:
             raise InvalidRow("count")
         _check_find(found)
         _check_after(after)
@@ -300,10 +301,6 @@ class Not(Test):
         return " ".join(_words_of_not(self))
 
 
-def _is_integer(value):
-    return isinstance(value, int) and not isinstance(value, bool)
-
-
 def is_find(value):
     """Tell whether any value is the name of a find."""
     if not isinstance(value, str) or not 1 <= len(value) <= MOST_FIND_LETTERS:
@@ -322,7 +319,7 @@ def _check_zone(value):
 
 
 def _check_value(value):
-    if not _is_integer(value) or value < 0:
+    if not is_number(value) or value < 0:
         raise InvalidRow("value")
 
 

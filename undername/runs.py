@@ -3,7 +3,7 @@
 from undername.errors import NoText
 from undername.made import filled
 from undername.parts import check_parts, check_same, core_of, cores_of
-from undername.rows import Change, Copy, Count, Fill, Found, If, Is, Keep, Last, List, Page, Put, Same, Tell, There
+from undername.rows import Change, Copy, Count, Fill, Found, If, Is, Keep, Last, List, Put, Same, Tell, There
 from undername.texts import is_text
 
 
@@ -41,13 +41,13 @@ def run(program, name, store):
 def holds(test, letters, name, store):
     """Tell whether a test holds, with finds that hold nothing."""
     check_parts(letters, cores_of([test]))
-    return _holds(Progress(name, store), test)
+    return _is_met(Progress(name, store), test)
 
 
 def _do_rows(progress, rows):
     for row in rows:
         if isinstance(row, If):
-            _do_rows(progress, row.rows if _holds(progress, row.test) else row.others)
+            _do_rows(progress, row.rows if _is_met(progress, row.test) else row.others)
         elif isinstance(row, Change):
             _change(progress, row)
         else:
@@ -57,18 +57,18 @@ def _do_rows(progress, rows):
 def _change(progress, row):
     store = progress.store
     if isinstance(row, Put):
-        store[_key(progress, row.key)] = row.value
+        store[_key_at(progress, row.key)] = row.value
     elif isinstance(row, Copy):
-        value = _value(progress, row.source)
+        value = _value_at(progress, row.source)
         if value is not None:
-            store[_key(progress, row.key)] = value
+            store[_key_at(progress, row.key)] = value
     elif isinstance(row, Keep):
         outside = ~row.zone
         for low, high in outside(progress.asked):
             store.take(low, high)
     else:
         after = _found(progress, row.after)
-        for low, high in _stretches(progress, row):
+        for low, high in _stretches_of(progress, row):
             if isinstance(row, Fill):
                 store.fill(row.value, low, high, after=after)
             else:
@@ -77,8 +77,8 @@ def _change(progress, row):
 
 def _answer(progress, row):
     if isinstance(row, Tell):
-        return "tell", _value(progress, row.key)
-    pairs = _pairs(progress, row)
+        return "tell", _value_at(progress, row.key)
+    pairs = _pairs_of(progress, row)
     if isinstance(row, List):
         return "list", tuple(pairs)
     if isinstance(row, Count):
@@ -94,31 +94,31 @@ def _page(progress, row, pairs):
     return "page", answered
 
 
-def _holds(progress, test):
+def _is_met(progress, test):
     core, wanted = core_of(test)
-    return _core_holds(progress, core) == wanted
+    return _core_is_met(progress, core) == wanted
 
 
-def _core_holds(progress, test):
+def _core_is_met(progress, test):
     if isinstance(test, There):
-        return _value(progress, test.key) is not None
+        return _value_at(progress, test.key) is not None
     if isinstance(test, Is):
-        return _value(progress, test.key) == test.value
+        return _value_at(progress, test.key) == test.value
     if isinstance(test, Same):
-        value = _value(progress, test.key)
-        return value is not None and value == _value(progress, test.other)
+        value = _value_at(progress, test.key)
+        return value is not None and value == _value_at(progress, test.other)
     if isinstance(test, Found):
         return _found(progress, test.found) is not None
-    return len(_pairs(progress, test)) > 0
+    return len(_pairs_of(progress, test)) > 0
 
 
-def _key(progress, made):
+def _key_at(progress, made):
     return filled(made, progress.asked)
 
 
-def _value(progress, made):
+def _value_at(progress, made):
     """Return the value of a key, or None if it is not there."""
-    key = _key(progress, made)
+    key = _key_at(progress, made)
     return progress.store[key] if key in progress.store else None
 
 
@@ -127,15 +127,16 @@ def _found(progress, found):
     return progress.finds.get(found)
 
 
-def _stretches(progress, part):
+def _stretches_of(progress, part):
     """Return the stretches of the zone of a row or a test; none behind a find that holds nothing."""
     if part.after is not None and _found(progress, part.after) is None:
         return ()
-    return part.zone(progress.asked)
+    zone = part.zone
+    return zone(progress.asked)
 
 
-def _pairs(progress, part):
+def _pairs_of(progress, part):
     """Return the keys of a row or a test with their values, ascending."""
     after = _found(progress, part.after)
-    stretches = _stretches(progress, part)
+    stretches = _stretches_of(progress, part)
     return [pair for low, high in stretches for pair in progress.store.pairs(low, high, after=after)]

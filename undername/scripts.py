@@ -7,7 +7,7 @@ A script ends in a DIFFER or a COMPARE.
 
 from undername.fields import key_spot, zone_spots
 from undername.parts import core_of, rows_within
-from undername.rows import Copy, Count, Fill, Found, If, Is, Keep, Last, List, Page, Put, Same, Some, Take, Tell, There
+from undername.rows import Copy, Count, Fill, If, Is, Keep, List, Page, Put, Same, Some, Take, Tell, There
 
 PUT = "put"  # spot, value
 COPY = "copy"  # spot, spot of the source

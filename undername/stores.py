@@ -1,7 +1,7 @@
 """Stores: tables from keys to values."""
 
 from undername.errors import NoKey, NoText, NoValue
-from undername.texts import check_letters, is_text
+from undername.texts import check_letters, is_number, is_text
 
 
 class Store:
@@ -92,7 +92,7 @@ class Trial:
 
 def check_value(value):
     """Raise NoValue if a value is no integer from 0."""
-    if not isinstance(value, int) or isinstance(value, bool) or value < 0:
+    if not is_number(value) or value < 0:
         raise NoValue(value)
 
 

@@ -75,3 +75,8 @@ def name_at(letters, number):
         left, digit = divmod(left - 1, len(letters))
         name = letters[digit] + name
     return name
+
+
+def is_number(value):
+    """Tell whether any value is an integer."""
+    return isinstance(value, int) and not isinstance(value, bool)

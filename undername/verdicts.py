@@ -5,7 +5,7 @@ is NEVER (no pair), where nothing can differ, and ALWAYS has a pair that does.
 """
 
 from undername.facts import are_same, is_told
-from undername.scripts import ALWAYS, COUNT, DIFFER, LAST, LIST, PAGE, TELL
+from undername.scripts import ALWAYS, COUNT, DIFFER, LIST, PAGE, TELL
 from undername.trails import GONE, KEPT, mark_at, paired
 
 
