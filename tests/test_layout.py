@@ -7,6 +7,10 @@ MOST_FILE_LINES = 399
 MOST_LINE_CHARACTERS = 120
 MOST_FUNCTION_LINES = 40
 
+# The parameters of [36].
+MEANT = ["*", "names=None", "where=()"]
+COMPARED = ["answers=True", "store=True"]
+
 # The functions of the interface with their parameters, by file; those behind a
 # star are by name only.
 FUNCTIONS = {
@@ -45,6 +49,36 @@ FUNCTIONS = {
         "right_end": ["letters", "made"],
         "wrong_end": ["letters", "made", "bound"],
     },
+    "runs.py": {
+        "run": ["program", "name", "store"],
+        "holds": ["test", "letters", "name", "store"],
+    },
+    "alike.py": {
+        "alike": ["p", "q", *MEANT, *COMPARED],
+        "least_parting": ["p", "q", *MEANT, *COMPARED],
+        "parting_names": ["p", "q", *MEANT, *COMPARED],
+    },
+    "papers.py": {
+        "paper": ["p", "q", *MEANT, *COMPARED],
+        "paper_holds": ["p", "q", "paper", *MEANT, *COMPARED],
+    },
+    "choices.py": {
+        "can_run": ["program", *MEANT],
+        "idle_rows": ["program", *MEANT, *COMPARED],
+        "fewest_rows": ["program", *MEANT, *COMPARED],
+        "broken": ["program", "tests", *MEANT],
+        "page_fault": ["program", "zone", *MEANT],
+    },
+}
+
+# The rows and tests of [30] with the parameters of their constructors, and what they are instances of.
+ROWS = {
+    "Row": [], "Change": [], "Asking": [], "Zoned": [], "Test": [],
+    "Put": ["key", "value"], "Copy": ["key", "source"], "Take": ["zone", "after=None"], "Keep": ["zone"],
+    "Fill": ["zone", "value", "after=None"], "Tell": ["key"], "List": ["zone", "after=None"],
+    "Count": ["zone", "after=None"], "Last": ["zone", "after=None"], "Page": ["zone", "count", "found", "after=None"],
+    "If": ["test", "rows", "others=()"], "There": ["key"], "Is": ["key", "value"], "Same": ["key", "other"],
+    "Some": ["zone", "after=None"], "Found": ["found"], "Not": ["test"],
 }
 
 # The classes of the interface with the parameters of their constructors and
@@ -101,6 +135,31 @@ CLASSES = {
             ["getitem", "setitem", "contains", "len", "eq", "iter"],
         ),
     },
+    "rows.py": {
+        name: ({"__init__": ["self", *parameters]} if parameters else {}, ["eq", "str"] if parameters else [])
+        for name, parameters in ROWS.items()
+    },
+    "runs.py": {"Outcome": ({"__init__": ["self", "answers", "store"]}, ["eq"])},
+    "programs.py": {
+        "Program": (
+            {
+                "__init__": ["self", "letters", "rows=()"], "read": ["cls", "letters", "text"],
+                "without": ["self", "at", "*more"], "__call__": ["self", "name", "store"],
+            },
+            ["len", "getitem", "iter", "add", "eq", "str"],
+        ),
+    },
+    "sessions.py": {
+        "Session": (
+            {
+                "__init__": ["self", "letters", "pairs=()"], "ask": ["self", "name"], "copied": ["self"],
+                "do": ["self", "program"], "undo": ["self"], "trial": ["self"], "within": ["self", "work"],
+                "tried": ["self", "programs"],
+            },
+            ["len"],
+        ),
+    },
+    "desk.py": {"Desk": ({"__init__": ["self"], "say": ["self", "command"]}, ["len"])},
 }
 
 
@@ -158,12 +217,18 @@ class LayoutTest(unittest.TestCase):
         }
         for class_name, names in (
             ("Names", ["none", "every", "of", "beginning", "family"]), ("Bound", ["ahead", "behind", "past", "end"]),
-            ("Zone", ["under", "only", "everything", "read"]),
+            ("Zone", ["under", "only", "everything", "read"]), ("Program", ["read"]),
         ):
             for name in names:
                 self.assertEqual(decorated[(class_name, name)], "classmethod")
         for name in ("size", "least"):
             self.assertEqual(decorated[("Names", name)], "property")
+        setters = [
+            ast.unparse(method.decorator_list[0])
+            for node in parsed(PACKAGE / "sessions.py").body if isinstance(node, ast.ClassDef) and node.name == "Session"
+            for method in node.body if isinstance(method, ast.FunctionDef) and method.name == "name"
+        ]
+        self.assertEqual(setters, ["property", "name.setter"])
 
     def test_sizes(self):
         for path in self.files():
