@@ -16,15 +16,19 @@ FINDS = ("c", "to", "not")
 
 
 class Source:
-    """Draws rows over a few made texts, with a number of keys that are left for pages."""
+    """Draws rows over a few made texts, with a number of keys that are left for pages.
 
-    def __init__(self, source, letters, texts, pages=3, values=2, depth=1):
+    With one find, rows often go on behind the pages.
+    """
+
+    def __init__(self, source, letters, texts, pages=3, values=2, depth=1, finds=FINDS):
         self.source = source
         self.letters = letters
         self.mades = [Made(text) for text in texts]
         self.pages = pages
         self.values = values
         self.depth = depth
+        self.finds = finds
 
     def made(self):
         return self.source.choice(self.mades)
@@ -36,7 +40,7 @@ class Source:
         return self.source.randrange(self.values)
 
     def after(self):
-        return self.source.choice([None, None, None, *FINDS])
+        return self.source.choice([None] * (1 if len(self.finds) == 1 else 3) + list(self.finds))
 
     def test(self, with_finds=True):
         kind = self.source.randint(0, 5 if with_finds else 4)
@@ -51,7 +55,7 @@ class Source:
             return Some(self.zone(), after)
         if kind == 4:
             return Not(self.test(with_finds))
-        return Found(self.source.choice(FINDS))
+        return Found(self.source.choice(self.finds))
 
     def row(self, blocks):
         kind = self.source.randint(0, 12 if blocks else 10)
@@ -78,7 +82,7 @@ class Source:
             if count > self.pages:
                 return Tell(self.made())
             self.pages -= count
-            return Page(self.zone(), count, self.source.choice(FINDS), self.after())
+            return Page(self.zone(), count, self.source.choice(self.finds), self.after())
         rows = [self.row(blocks - 1) for _ in range(self.source.randint(0, 2))]
         others = [self.row(blocks - 1) for _ in range(self.source.choice([0, 0, 1, 2]))]
         return If(self.test(), rows, others)

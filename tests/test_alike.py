@@ -11,7 +11,7 @@ from undername.made import Made
 from undername.names import Names
 from undername.orders import told_names
 from undername.programs import Program
-from undername.rows import Found, Is, Not, Same, Some, There
+from undername.rows import Is, Not, Page, Same, Some, There
 from undername.runs import holds
 from undername.stores import Store
 from undername.texts import room
@@ -81,6 +81,67 @@ class AlikeTest(unittest.TestCase):
                    ("", [("", 0), ("a", 0), ("aa", 0)]))
         self.parts("page 1 c all\nlast all after c", "page 1 c all\nfill 3 all after c\nlast all after c",
                    ("", [("", 0), ("a", 0)]))
+
+    def test_finds_within_a_gap(self):
+        for one, other, expected in (
+            ("page 1 c all\nlast all", "page 1 c all\ntake all after c\nlast all", [("", 0), ("a", 0)]),
+            ("page 2 c all\nlist all", "page 2 c all\nlist all after c", [("", 0)]),
+            ("page 2 c all\ntake all after c\nlist all", "page 2 c all\nlist all", [("", 0), ("a", 0), ("aa", 0)]),
+            ("page 2 c all\nfill 0 all after c\nlist all", "page 2 c all\nlist all", [("", 0), ("a", 0), ("aa", 1)]),
+            ("page 1 c all\nfill 0 all after c\nlast all", "page 1 c all\nlast all", [("", 0), ("a", 1)]),
+            ("page 1 c all\ncount all after c", "page 1 c all\ntake all after c\ncount all", [("", 0)]),
+        ):
+            self.parts(one, other, ("", expected), store=False)
+        for one, other, expected in (
+            ("take all after c", "", [("", 0), ("a", 0), ("aa", 0)]), ("fill 0 all after c", "", [("", 0), ("a", 0), ("aa", 1)]),
+            ("take all after c\nfill 1 all", "fill 1 all", [("", 0), ("a", 0), ("aa", 0)]),
+            ("fill 1 all\ntake all after c", "take all after c\nfill 1 all", None),
+            ("fill 0 all after c\nfill 1 all", "fill 1 all", None),
+        ):
+            expected = None if expected is None else ("", expected)
+            self.parts(f"page 2 c all\n{one}", f"page 2 c all\n{other}" if other else "page 2 c all", expected, answers=False)
+        self.parts("page 2 c all\npage 1 d all\ntake all after d\nfill 1 all after c\nfill 3 all",
+                   "page 1 d all\ntake all after d\nfill 3 all", None, answers=False)
+        self.parts("put a 1\nput b 1\npage 1 c all", "put b 1\nput a 1\npage 1 c not under b", None, where=[There(Made("a"))])
+
+    def test_words_of_answers(self):
+        where = [There(Made("b"))]
+        for one, other, expected in (
+            ("list all", "list all - key !", [("", 0), ("b", 0)]), ("count all", "count all - key !", [("", 0), ("b", 0)]),
+            ("list key b", "last key b", [("b", 0)]), ("count key b", "tell b", [("b", 0)]), ("list key b", "page 1 c key b", [("b", 0)]),
+            ("fill 1 key b\ncount key b", "count key b\nfill 1 key b", None), ("fill 1 key b\nlist key b", "list key b\nfill 1 key b", [("b", 0)]),
+            ("fill 1 key b\nlast key b", "last key b\nfill 1 key b", [("b", 0)]), ("last all", "last not key !", None),
+            ("list under b\nlist under a", "list under a\nlist under b", [("b", 0)]),
+        ):
+            self.parts(one, other, None if expected is None else ("", expected), where=where)
+
+    def test_pages_against_plain_search(self):
+        source = random.Random(19)
+        some_stores = [*stores(AB, 2, 3, range(1)), *stores(AB, 2, 2, range(2)), *stores(AB, 1, 3, range(3))]
+        some_stores = sorted(some_stores, key=lambda store: place_of(("", store)))
+        alikes = 0
+        for _ in range(300):
+            texts = source.choice([["@"], [""], ["b"], ["@a", "a@"]])
+            drawn = Source(source, AB, texts, pages=source.choice([1, 2]), values=source.choice([1, 2]), finds=("c",))
+            zone = source.choice([Zone.everything(AB), drawn.zone()])
+            first = Page(zone, source.randint(1, drawn.pages), "c")
+            drawn.pages -= first.count
+            p = Program(AB, [first, *[drawn.row(1) for _ in range(source.randint(1, 3))]])
+            drawn.pages = 0
+            q = drawn.changed(p)
+            if p.pages + q.pages > 3:
+                continue
+            compared = source.choice([{}, {"answers": False}, {"store": False}])
+            is_it = self.parted(p, q, (), compared)
+            found = least_parting(p, q, **compared)
+            alikes += found is None
+            searched = least_by_search(AB, ["", source.choice(["a", "b", "ab"])], some_stores, is_it)
+            with self.subTest(p=str(p), q=str(q), **compared):
+                self.assertTrue(found is None or is_it(*found))
+                if searched is not None:
+                    self.assertIsNotNone(found)
+                    self.assertLessEqual(place_of(found), place_of(searched))
+        self.assertGreater(alikes, 50)
 
     def test_values_that_part(self):
         # The constants are taken, so the least value that parts is another one.

@@ -115,6 +115,9 @@ class PapersTest(unittest.TestCase):
             ("is", 0, 1, (), ()), ("same", 0, 0, (), ()), ("same", 0, 1, (), ()), (0, 0, (), ()), ((), (), (), ()),
         ):
             self.holds(False, "put @ 1", "put @ 1", tree)
+        for word in ("", "some", "SAME", "is ", None, 0, ()):
+            for rest in ((0, 1, (), ()), (0, (), ()), (0, (), (), ())):
+                self.holds(False, "put @ 1\nput a 1", "put @ 1\nput a 1", there(0, there(1, (word, *rest))))
 
     def test_nothing_is_asked_twice(self):
         for tree in (

@@ -132,6 +132,22 @@ class RowsTest(unittest.TestCase):
         self.assertNotEqual(If(There(S), [Tell(T)]), If(There(S), (), [Tell(T)]))
         self.assertEqual(If(There(S), [Tell(T)], []), If(There(S), (Tell(T),)))
 
+    def test_equality_within_a_class(self):
+        other = Zone.under(AB, S)
+        for one, another in (
+            (Put(T, 3), Put(T, 4)), (Put(T, 3), Put(S, 3)), (Copy(T, S), Copy(S, T)), (Copy(T, S), Copy(T, T)),
+            (Take(ZONE), Take(other)), (Keep(ZONE), Keep(other)), (Fill(ZONE, 1), Fill(ZONE, 2)),
+            (Fill(ZONE, 1), Fill(ZONE, 1, "c")), (Tell(T), Tell(S)), (List(ZONE, "c"), List(ZONE, "d")),
+            (Count(ZONE, "c"), Count(other, "c")), (Last(ZONE), Last(ZONE, "c")), (Page(ZONE, 1, "c"), Page(ZONE, 2, "c")),
+            (Page(ZONE, 1, "c"), Page(ZONE, 1, "d")), (Page(ZONE, 1, "c"), Page(ZONE, 1, "c", "c")), (There(T), There(S)),
+            (Is(T, 1), Is(T, 2)), (Is(T, 1), Is(S, 1)), (Same(T, S), Same(S, T)), (Some(ZONE), Some(other)),
+            (Found("c"), Found("d")), (Not(There(T)), Not(There(S))), (Not(There(T)), Not(Not(There(T)))),
+            (If(There(T), ()), If(There(S), ())), (If(There(T), [Tell(T)]), If(There(T), [Tell(S)])),
+        ):
+            with self.subTest(one=str(one), another=str(another)):
+                self.assertFalse(one == another)
+                self.assertTrue(one != another)
+
     def test_equality_asks_for_the_letters_of_zones(self):
         wide = Zone.under("abc", T)
         for made in (Take, Keep, List, Count, Last, Some, lambda zone: Fill(zone, 1), lambda zone: Page(zone, 1, "c")):

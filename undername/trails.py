@@ -1,9 +1,9 @@
 """Trails: runs of scripts with what is told of the store at the start.
 
 The state of a spot is a tuple (put, firsts, rest). If put is not None, it is the
-value of the made key, which a row has put there. Else firsts are the marks of the
-first keys that were in the spot at the start, and rest is the mark of all others:
-KEPT, GONE, or the value that a row has given them.
+value of the made key, which a row has put there, and rest is GONE. Else firsts are
+the marks of the first keys that were in the spot at the start, and rest is the mark
+of all others: KEPT, GONE, or the value that a row has given them.
 """
 
 from undername.facts import EQUAL, MANY, OpenQuestion, are_same, is_told
@@ -35,7 +35,6 @@ from undername.scripts import (
 KEPT = "kept"
 GONE = "gone"
 AT_START = (None, (), KEPT)
-TAKEN = (None, (), GONE)
 
 
 class Trail:
@@ -131,8 +130,6 @@ def _change(trail, facts, step):
 
 def _taken(state, first):
     """Return a state without the keys from a place on."""
-    if first == 1:
-        return TAKEN
     return None, _marks_up_to(state, first - 1), GONE
 
 
@@ -160,7 +157,7 @@ def mark_at(state, place):
 def _is_there(trail, facts, spot):
     """Tell whether a made key is there."""
     put, _, rest = trail.states[spot]
-    if put is not None or rest == GONE:
+    if rest == GONE:
         return put is not None
     if not is_told(facts, spot):
         raise OpenQuestion((MANY, spot, 0))

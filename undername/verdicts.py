@@ -100,8 +100,8 @@ def _listed(facts, states):
 def _wholes(facts, states):
     """Return the spots that may have more keys, with the marks of these."""
     return [
-        (spot, rest) for spot, _, (put, _, rest) in states
-        if put is None and rest != GONE and not is_told(facts, spot)
+        (spot, rest) for spot, _, (_, _, rest) in states
+        if rest != GONE and not is_told(facts, spot)
     ]
 
 
