@@ -104,6 +104,25 @@ class AlikeTest(unittest.TestCase):
                    "page 1 d all\ntake all after d\nfill 3 all", None, answers=False)
         self.parts("put a 1\nput b 1\npage 1 c all", "put b 1\nput a 1\npage 1 c not under b", None, where=[There(Made("a"))])
 
+    def test_keys_behind_finds(self):
+        self.parts("page 1 c all\nlast all after c", "page 1 c all\nlast key a & key b", ("", [("", 0), ("a", 0)]))
+        self.parts("page 1 c under b\nlist all after c", "page 1 c under b\nlist under b after c", None)
+        self.parts("page 1 c under b\ntake all after c", "page 1 c under b\ntake under b after c", None)
+        self.parts("page 1 c under b\nlast all after c", "page 1 c under b\nlast under b after c", None)
+        self.parts("page 1 c under b\nlist all after c", "page 1 c under b\nlist all", ("", [("", 0)]))
+        self.parts("page 1 c key a\nlist all after c", "page 1 c key a\nif there a\nlist behind a to end\nelse\nlist key a - all\nend", None)
+        guard = "page 1 c all\nif some all after c\ntake all after c\n"
+        self.parts(f"{guard}last all\nend", f"{guard}last key a & key b\nend", ("", [("", 0), ("a", 0)]))
+        for text in ("last all\npage 2 c all\nif some all after c\nend", "last all\npage 1 c all\npage 1 d all after c\nlast all after d"):
+            self.parts(text, text, None)
+
+    def test_the_last_key_is_one_that_was_put(self):
+        self.parts("put b 1\nlast under b", "put b 1\nlast key b | under ba", ("", [("bb", 0)]))
+        self.parts("put b 1\nlast key b", "put b 1\npage 1 c key b", ("", []))
+        self.parts("put b 1\nlast all - under ba - under bb", "put b 1\nlast key b", None)
+        self.parts("put b 1\nlast key b", "last key b\nput b 1", ("", []))
+        self.parts("put b 1\nput ba 2\nlast key b | key ba", "put b 1\nput ba 2\nlast key ba", None)
+
     def test_words_of_answers(self):
         where = [There(Made("b"))]
         for one, other, expected in (

@@ -76,5 +76,6 @@ def field_of(ground, asked):
 
 def names_meant(ground):
     """Return the least names meant, one for each class that has some, ascending."""
+    # The least names meant of classes are not in the order of the told names.
     numbers = sorted([int(number_of(ground.letters, name)) for name in ground.meant if name is not None])
     return [name_at(ground.letters, number) for number in numbers]
