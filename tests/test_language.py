@@ -166,20 +166,38 @@ class LanguageTest(unittest.TestCase):
 
     def test_operators_and_properties_change_nothing(self):
         """L5: nor does anything that they call, but for lists and dicts of its own."""
+        for file_name, function in self.run_by_operators():
+            if function.name != "__init__":
+                self.assert_changes_nothing(file_name, function)
+
+    def test_operators_and_properties_call_nothing_that_they_hold(self):
+        """L5, L28: nor does anything that they call; a method that has the name of an attribute may be held, too."""
+        attributes = {node.attr for _, node in self.nodes(ast.Attribute) if isinstance(node.ctx, ast.Store)}
+        self.assertIn("count", attributes)
+        for file_name, function in self.run_by_operators():
+            for node in ast.walk(function):
+                if not isinstance(node, ast.Call):
+                    continue
+                place = f"{file_name}:{node.lineno}"
+                if isinstance(node.func, ast.Attribute):
+                    self.assertNotIn(node.func.attr, attributes, place)
+                else:
+                    self.assertNotIn(node.func.id, parameters_of(function) | stored_names(function), place)
+
+    def run_by_operators(self):
+        """All that operators and properties run, as pairs of a file and a function, by the names that are called."""
         waiting = [
             found for name, rows in self.methods.items() for found in rows
             if name in OPERATORS or [node for node in found[1].decorator_list if ast.unparse(node) == "property"]
         ]
         met = []
         while waiting:
-            file_name, function = waiting.pop()
-            if function in met:
-                continue
-            met.append(function)
-            if function.name != "__init__":
-                self.assert_changes_nothing(file_name, function)
-            waiting.extend(self.called_by(function))
+            found = waiting.pop()
+            if found not in met:
+                met.append(found)
+                waiting.extend(self.called_by(found[1]))
         self.assertTrue(met)
+        return met
 
     def assert_changes_nothing(self, file_name, function):
         place = f"{file_name}:{function.name}"
@@ -187,9 +205,6 @@ class LanguageTest(unittest.TestCase):
         for node in ast.walk(function):
             if isinstance(node, ast.Attribute):
                 self.assertIsInstance(node.ctx, ast.Load, place)
-            # Neither parameters nor variables are called.
-            if isinstance(node, ast.Call) and isinstance(node.func, ast.Name):
-                self.assertNotIn(node.func.id, parameters_of(function) | stored_names(function), place)
         for row in function.body:
             for changed in changed_in(row):
                 self.assertIn(changed, own, place)

@@ -15,7 +15,9 @@ class Made:
         if at is not None:
             raise InvalidMade(at)
         self.text = text
-        self.marks = text.count(MARK)
+        # Operators make made texts, and may call no method by the name of an attribute
+        # that some class stores; `count` is one of them.
+        self.marks = len([character for character in text if character == MARK])
         self.letters = "".join([letter for letter in CHARACTERS if letter in text])
 
     def __call__(self, name):
